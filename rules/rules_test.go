@@ -64,8 +64,8 @@ func TestLayersTakeInOnlyWhatTheyMay(t *testing.T) {
 }
 
 // P6: nothing is kept between calls, since there is no place for it.
-func TestNumAndPermHaveNoVariables(t *testing.T) {
-	for _, name := range []string{"num", "perm"} {
+func TestLayersHaveNoVariables(t *testing.T) {
+	for _, name := range layers() {
 		for _, f := range files(t, name) {
 			for _, d := range f.Decls {
 				if g, is := d.(*ast.GenDecl); is && g.Tok == token.VAR {
