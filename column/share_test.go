@@ -5,20 +5,14 @@ import (
 	"testing"
 
 	"reticule/api"
+	"reticule/proof"
 )
-
-func spoil[T any](l []T, by T) {
-	l = l[:cap(l)]
-	for i := range l {
-		l[i] = by
-	}
-}
 
 func TestP3WhatIsHandedInStays(t *testing.T) {
 	c := table(t)
 	room := []api.Word{1, 2, 3, 70, 71}
 	want(t, api.OK, c.Load(ofNode("x"), room[:3]))
-	spoil(c.List(ofNode("x")), 9)
+	proof.Spoil(c.List(ofNode("x")), 9)
 	want(t, api.OK, c.Fill(ofNode("x"), 8))
 	if !slices.Equal(room, []api.Word{1, 2, 3, 70, 71}) {
 		t.Error(room)
@@ -28,7 +22,7 @@ func TestP3WhatIsHandedInStays(t *testing.T) {
 	before := slices.Clone(bytes)
 	d, _ := Decode(3, 2, bytes[:len(b)])
 	want(t, api.OK, d.Fill(ofNode("x"), 5))
-	spoil(encoded(t, d), 6)
+	proof.Spoil(encoded(t, d), 6)
 	if !slices.Equal(bytes, before) {
 		t.Error(bytes)
 	}
@@ -41,12 +35,12 @@ func TestP3WhatIsKeptIsTheTables(t *testing.T) {
 	before := c.Fork()
 	b := encoded(t, c)
 	d, _ := Decode(3, 2, b)
-	spoil(l, 7)
-	spoil(b, 7)
+	proof.Spoil(l, 7)
+	proof.Spoil(b, 7)
 	for _, k := range c.Keys() {
-		spoil(c.List(k), 7)
+		proof.Spoil(c.List(k), 7)
 	}
-	spoil(c.Keys(), api.Key{})
+	proof.Spoil(c.Keys(), api.Key{})
 	if !c.Same(before) || !d.Same(before) {
 		t.Error(c, d)
 	}

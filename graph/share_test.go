@@ -5,18 +5,8 @@ import (
 	"testing"
 
 	"reticule/api"
+	"reticule/proof"
 )
-
-func roomy[T any](l []T, behind T) []T {
-	return append(slices.Clone(l), behind, behind, behind)[:len(l)]
-}
-
-func spoil[T any](l []T, by T) {
-	l = l[:cap(l)]
-	for i := range l {
-		l[i] = by
-	}
-}
 
 // numbers are all lists of numbers that the graph answers.
 func numbers(g *Graph) [][]int {
@@ -40,17 +30,17 @@ func some() []api.Edge {
 }
 
 func TestP3WhatIsHandedInStays(t *testing.T) {
-	l := roomy(some(), edge(7, 7))
+	l := proof.Roomy(some(), edge(7, 7))
 	want := slices.Clone(l[:cap(l)])
 	b, _ := Encode(4, l)
-	bytes := roomy(b, 9)
+	bytes := proof.Roomy(b, 9)
 	wantBytes := slices.Clone(bytes[:cap(bytes)])
 	g := New(4, l)
-	spoil(Distinct(l), edge(8, 8))
+	proof.Spoil(Distinct(l), edge(8, 8))
 	_, k, _, _ := Decode(bytes)
-	spoil(k, edge(8, 8))
+	proof.Spoil(k, edge(8, 8))
 	for _, a := range numbers(g) {
-		spoil(a, 77)
+		proof.Spoil(a, 77)
 	}
 	Check(4, l)
 	if !slices.Equal(l[:cap(l)], want) || !slices.Equal(bytes[:cap(bytes)], wantBytes) {
@@ -63,14 +53,14 @@ func TestP3WhatIsKeptIsTheGraphs(t *testing.T) {
 	g := New(4, l)
 	twin := New(4, some())
 	want, wantReaches := numbers(twin), twin.Reaches()
-	spoil(l, edge(9, 9))
+	proof.Spoil(l, edge(9, 9))
 	for _, a := range numbers(g) {
-		spoil(a, 77)
+		proof.Spoil(a, 77)
 	}
 	for _, a := range g.Reaches() {
-		spoil(a, true)
+		proof.Spoil(a, true)
 	}
-	spoil(g.Turned().edges, edge(9, 9))
+	proof.Spoil(g.Turned().edges, edge(9, 9))
 	if e, _ := g.Edge(3); e != edge(2, 0) || !sameRows(numbers(g), want) || !sameRows(g.Reaches(), wantReaches) {
 		t.Error(e, numbers(g), g.Reaches())
 	}
@@ -80,7 +70,7 @@ func TestP3NoTwoListsShare(t *testing.T) {
 	g := New(4, some())
 	for spoilt := range numbers(g) {
 		all, want := numbers(g), numbers(New(4, some()))
-		spoil(all[spoilt], 77)
+		proof.Spoil(all[spoilt], 77)
 		for i := range all {
 			if i != spoilt && !slices.Equal(all[i], want[i]) {
 				t.Errorf("the lists %d and %d share memory", spoilt, i)
@@ -89,7 +79,7 @@ func TestP3NoTwoListsShare(t *testing.T) {
 	}
 	for spoilt := range g.N() {
 		all, want := g.Reaches(), g.Reaches()
-		spoil(all[spoilt], !want[spoilt][0])
+		proof.Spoil(all[spoilt], !want[spoilt][0])
 		for i := range all {
 			if i != spoilt && !slices.Equal(all[i], want[i]) {
 				t.Errorf("the rows %d and %d share memory", spoilt, i)

@@ -8,6 +8,7 @@ import (
 
 	"reticule/api"
 	"reticule/num"
+	"reticule/proof"
 )
 
 // The calls have the signatures that the chapter lists.
@@ -42,21 +43,6 @@ func wantError(t *testing.T, text string, at int, e api.Errno) {
 }
 
 func operators() []string { return strings.Split("+ - * / % & | ^ = <", " ") }
-
-// every does f with all rows of up to n of the pieces, put together.
-func every(n int, pieces []string, f func(string)) {
-	var grow func(s string, left int)
-	grow = func(s string, left int) {
-		f(s)
-		if left == 0 {
-			return
-		}
-		for _, p := range pieces {
-			grow(s+p, left-1)
-		}
-	}
-	grow("", n)
-}
 
 // blanked is the text with blanks in place of remarks and of signs between words, byte by byte.
 func blanked(text string) string {
@@ -241,7 +227,7 @@ func TestP6_1Spaced(t *testing.T) {
 
 // All short texts, of pieces of all kinds.
 func TestP6_1ShortTexts(t *testing.T) {
-	every(4, hard(), func(text string) {
+	proof.Texts(4, hard(), func(text string) {
 		got, at, e := Tokens(text)
 		want, wantAt, wantE := plainTokens(text)
 		if !slices.Equal(got, want) || at != wantAt || e != wantE {
@@ -284,7 +270,7 @@ func TestP6_1MaxTokens(t *testing.T) {
 }
 
 func TestP6_2TokensArePiecesAtTheirPlaces(t *testing.T) {
-	every(4, hard(), func(text string) {
+	proof.Texts(4, hard(), func(text string) {
 		l, _, _ := Tokens(text)
 		end := 0
 		for _, token := range l {
@@ -372,7 +358,7 @@ func TestP6_4Line(t *testing.T) {
 			t.Errorf("Line(%.20q, %d) is %d, %d, not %d, %d", c.text, c.at, lines, rest, c.lines, c.rest)
 		}
 	}
-	every(4, []string{"a", "\n", "Ġ", "\xff"}, func(text string) {
+	proof.Texts(4, []string{"a", "\n", "Ġ", "\xff"}, func(text string) {
 		lines, rest := 0, 0
 		for at := range len(text) + 3 {
 			if gotLines, gotRest := Line(text, at); gotLines != lines || gotRest != rest {

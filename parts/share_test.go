@@ -5,18 +5,8 @@ import (
 	"testing"
 
 	"reticule/api"
+	"reticule/proof"
 )
-
-func roomy[T any](l []T, behind T) []T {
-	return append(slices.Clone(l), behind, behind, behind)[:len(l)]
-}
-
-func spoil[T any](l []T, by T) {
-	l = l[:cap(l)]
-	for i := range l {
-		l[i] = by
-	}
-}
 
 // lists are all lists that p answers.
 func lists(p *Parts) [][]int {
@@ -37,13 +27,13 @@ func sameRows(a, b [][]int) bool {
 func some() []int { return []int{2, 0, 0, 1, -1, 0, 7, 5, 0} }
 
 func TestP3WhatIsHandedInStays(t *testing.T) {
-	by, l := roomy(some(), 77), roomy([]api.Edge{edge(0, 1), edge(2, 9), edge(3, 5)}, edge(7, 7))
+	by, l := proof.Roomy(some(), 77), proof.Roomy([]api.Edge{edge(0, 1), edge(2, 9), edge(3, 5)}, edge(7, 7))
 	wantBy, wantL := slices.Clone(by[:cap(by)]), slices.Clone(l[:cap(l)])
 	for _, nodes := range []int{1, 5, len(by), api.MaxNodes} {
 		p := New(nodes, 3, by)
 		p.Cut(l)
 		for _, a := range lists(p) {
-			spoil(a, 55)
+			proof.Spoil(a, 55)
 		}
 	}
 	if !slices.Equal(by[:cap(by)], wantBy) || !slices.Equal(l[:cap(l)], wantL) {
@@ -55,9 +45,9 @@ func TestP3WhatIsKeptIsThePartsOwn(t *testing.T) {
 	by := some()
 	p := New(10, 3, by)
 	want := lists(New(10, 3, some()))
-	spoil(by, 1)
+	proof.Spoil(by, 1)
 	for _, a := range lists(p) {
-		spoil(a, 55)
+		proof.Spoil(a, 55)
 	}
 	if got := lists(p); !sameRows(got, want) {
 		t.Errorf("%v, not %v", got, want)
@@ -71,7 +61,7 @@ func TestP3NoTwoListsShare(t *testing.T) {
 	p := New(10, 3, some())
 	for spoilt := range lists(p) {
 		all, want := lists(p), lists(New(10, 3, some()))
-		spoil(all[spoilt], 55)
+		proof.Spoil(all[spoilt], 55)
 		for i := range all {
 			if i != spoilt && !slices.Equal(all[i], want[i]) {
 				t.Errorf("the lists %d and %d share memory", spoilt, i)
@@ -79,7 +69,7 @@ func TestP3NoTwoListsShare(t *testing.T) {
 		}
 	}
 	first := Spread(6, 2, 3)
-	spoil(Spread(6, 2, 3), 55)
+	proof.Spoil(Spread(6, 2, 3), 55)
 	if !slices.Equal(first, Spread(6, 2, 3)) {
 		t.Error(first)
 	}

@@ -5,20 +5,8 @@ import (
 	"testing"
 
 	"reticule/api"
+	"reticule/proof"
 )
-
-// roomy is l with things in the spare room behind its end.
-func roomy(l []int) []int {
-	room := append(slices.Clone(l), 71, 72, 73)
-	return room[:len(l)]
-}
-
-func spoil(l []int) {
-	l = l[:cap(l)]
-	for i := range l {
-		l[i] = -77
-	}
-}
 
 // answers are all lists that the calls answer of p, l and cuts.
 func answers(p, l []int, cuts uint64) [][]int {
@@ -34,10 +22,10 @@ func answers(p, l []int, cuts uint64) [][]int {
 
 func TestP3WhatIsHandedInStays(t *testing.T) {
 	for _, p := range [][]int{nil, {0}, {2, 0, 1}, {1, 0, 3, 2}, {0, 0}, countDown(api.MaxPerm), count(api.MaxPerm + 1)} {
-		q, l := roomy(p), roomy(countDown(len(p)))
+		q, l := proof.Roomy(p, 71), proof.Roomy(countDown(len(p)), 71)
 		wantQ, wantL := slices.Clone(q[:cap(q)]), slices.Clone(l[:cap(l)])
 		for _, a := range answers(q, l, 2) {
-			spoil(a)
+			proof.Spoil(a, -77)
 		}
 		if !slices.Equal(q[:cap(q)], wantQ) || !slices.Equal(l[:cap(l)], wantL) {
 			t.Errorf("%v: %v, %v", p, q[:cap(q)], l[:cap(l)])
@@ -50,7 +38,7 @@ func TestP3WhatIsAnsweredIsTheCallers(t *testing.T) {
 	const cuts = 4 // the last row is short enough to fit into spare room behind the first one
 	for spoilt := range answers(p, l, cuts) {
 		all, want := answers(p, l, cuts), answers(p, l, cuts)
-		spoil(all[spoilt])
+		proof.Spoil(all[spoilt], -77)
 		for i := range all {
 			if i != spoilt && !slices.Equal(all[i], want[i]) {
 				t.Errorf("the lists %d and %d share memory", spoilt, i)
@@ -65,7 +53,7 @@ func TestP6NothingIsKept(t *testing.T) {
 	want := answers(p, l, 5)
 	for range 3 {
 		for _, a := range answers(p, l, 5) {
-			spoil(a)
+			proof.Spoil(a, -77)
 		}
 		if got := answers(p, l, 5); !sameRows(got, want) {
 			t.Fatalf("%v, not %v", got, want)
