@@ -51,6 +51,24 @@ func Sources() []string {
 	}
 }
 
+// Fitting are texts of programs that fit themselves, and do not clash: all kinds of statements, acts and expressions, and all operations.
+func Fitting() []string {
+	const head = "(int i) (int j) (bool b) (nint ni) (nint nj) (nbool nb) (eint ei) (ebool eb) "
+	return []string{
+		"",
+		head,
+		head + "(set i (+ 1 (- j (* (count) (/ 7 (% i 2))))))",
+		head + "(set i (narrow 8 (shl (min i j) (shr (max 1 2) (& 3 (| 4 (^ 5 j)))))))",
+		head + "(set b (if (and b (not false)) (= true (< i j)) (or (= i -1) b)))",
+		head + "(fold i + (own ni)) (fold b and (own nb) (< (id) (deg in))) (fold j min (if b i (own nj)) (= (own nb) b))",
+		head + "(each (put ni (deg out)) (put nb b (own nb)) (push nj max in (+ (via ei) (own ni)) (not (own nb))))",
+		head + "(each (pull ni + out (* (far nj) (via ei))) (pull nb or in (and (far nb) (via eb))) (push ni + in (via ei)))",
+		head + "(each (pull ni min out (if (via eb) (farid) i)))",
+		head + "(if b ((set i 1)) ((while (< i 3) (set i (+ i 1))) (loop false (set b b))))",
+		head + "(bfs ni (+ i 1) (each (push nb or out (= (own ni) (id)) (own nb))) (bfs nj 0))",
+	}
+}
+
 // Changed does f with all texts that come of one by a bracket or word that is missing, or by a piece ahead of it, or in its place.
 func Changed(text string, pieces []string, f func(string)) {
 	words := strings.Fields(strings.NewReplacer("(", " ( ", ")", " ) ").Replace(text))
