@@ -18,21 +18,9 @@ import (
 	"reticule/typed"
 )
 
-const head = "(int i) (int j) (bool b) (nint ni) (nint nj) (nbool nb) (eint ei) (ebool eb) "
+const head = proof.Head
 
-// texts are of programs that fit, and do not clash: some run on, with other statements in their loops and levels.
-func texts() []string {
-	return append(proof.Fitting(),
-		head+"(while (< i 3) (set i (+ (max i 0) 1)) (each (push ni + out (* i (own nj)) (own nb)) (put nj (+ (own nj) (deg in)))))",
-		head+"(loop (and b (< j 9)) (fold j + (own ni) (< (own ni) 4)) (set j (max j 7)) (each (pull nb or out (far nb)) (put ni (if (own nb) (id) j))) (fold b and (own nb)))",
-		head+"(bfs ni (& i 3) (fold j + 1 (= (own ni) 2)) (if (< j 2) ((each (put nj (own ni)))) ((each (push nj min in (via ei) (own nb))))))",
-		head+"(bfs ni 1 (each (put ni -1 (and (own nb) (< 1 (own ni))))) (bfs nj 0 (set i (+ i 1))))",
-		head+"(bfs ni 0 (bfs ni (- (count) 1)) (each (put ni 5 (= (own ni) 1))))",
-		head+"(set i 2) (while (not (= i 0)) (set i (- i 1)) (loop b (fold b and (own nb)) (set b false)))",
-		head+"(loop (< i 2) (each (pull ni max in (+ (far nj) (farid))) (push nj max in (own ni) (not (own nb)))) (fold i max (own ni)) (set i (if (< i 0) 3 (min i 100))))",
-		head+"(if (< i j) ((bfs nj i)) ((bfs nj j (each (put nb (= (own nj) 0)))))) (fold j max (own nj)) (while (< 0 j) (set j (- (min j 3) 1)) (each (push ni + out 1 (= (own nj) j))))",
-	)
-}
+func texts() []string { return proof.Running() }
 
 // orders are some in which things come.
 func orders() []plain.Turn {

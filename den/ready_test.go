@@ -1,8 +1,6 @@
 package den_test
 
 import (
-	"fmt"
-	"strings"
 	"testing"
 
 	"reticule/api"
@@ -34,27 +32,9 @@ func source(t *testing.T, text string) api.Program {
 }
 
 // zeros is the world with columns of zeros for all that a program declares, and that it has not.
-func zeros(w plain.World, p api.Program) plain.World {
-	w = w.Fork()
-	long := map[api.Side]int{api.Scalar: 1, api.OfNode: w.Nodes, api.OfEdge: len(w.Edges)}
-	for _, d := range p.Decls {
-		k := api.Key{Name: d.Name, Side: d.Side}
-		if _, there := w.Columns[k]; !there {
-			w.Columns[k] = plain.Column{Kind: d.Kind, Vals: make([]api.Word, long[d.Side])}
-		}
-	}
-	return w
-}
+func zeros(w plain.World, p api.Program) plain.World { return w.Zeros(p.Decls) }
 
-// tell are columns as text: a=5 of a scalar, a[1 2] of nodes, a{1 2} of edges.
-func tell(c *column.Table) string {
-	var l []string
-	for _, k := range c.Keys() {
-		list := strings.Trim(fmt.Sprint(c.List(k)), "[]")
-		l = append(l, map[api.Side]string{api.Scalar: k.Name + "=" + list, api.OfNode: k.Name + "[" + list + "]", api.OfEdge: k.Name + "{" + list + "}"}[k.Side])
-	}
-	return strings.Join(l, " ")
-}
+func tell(c *column.Table) string { return plain.Tell(c) }
 
 func wantReady(t *testing.T, what string, p api.Program, g *graph.Graph, c *column.Table, want api.Errno) {
 	t.Helper()

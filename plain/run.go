@@ -5,6 +5,7 @@ import (
 
 	"reticule/api"
 	"reticule/num"
+	"reticule/perm"
 )
 
 // Turn is in which order so many things come.
@@ -19,7 +20,22 @@ func AsIs(n int) []int {
 	return l
 }
 
-// Region is the world behind acts, where acts, nodes, and edges come in some order; or the first error.
+// ByNumber lets things come in the order of a number; more than MaxPerm as they stand, or the last one first.
+func ByNumber(k uint64) Turn {
+	return func(n int) []int {
+		if n <= api.MaxPerm {
+			l, _ := perm.From(n, k)
+			return l
+		}
+		l := AsIs(n)
+		if k%2 == 1 {
+			slices.Reverse(l)
+		}
+		return l
+	}
+}
+
+// Region is the world behind acts, where acts, nodes, and each node's edges come in some order; or the first error.
 func (w World) Region(p api.Program, l []api.Act, turn Turn) (World, api.Errno) {
 	behind := w.Fork()
 	for _, i := range turn(len(l)) {
@@ -51,11 +67,10 @@ func (w World) act(p api.Program, a api.Act, v int, behind World, turn Turn) api
 		}
 		return behind.set(a.Name, v, val)
 	}
-	for _, i := range turn(len(w.Edges)) {
-		far, has := other(w.Edges[i], v, a.In)
-		if !has {
-			continue
-		}
+	mine := w.edgesOf(v, a.In)
+	for _, n := range turn(len(mine)) {
+		i := mine[n]
+		far, _ := other(w.Edges[i], v, a.In)
 		val, wrong := w.Value(p, a.E, v, i, far)
 		if wrong != api.OK {
 			return wrong
@@ -76,17 +91,29 @@ func (w World) act(p api.Program, a api.Act, v int, behind World, turn Turn) api
 	return api.OK
 }
 
-// run is a world in which statements are done, and how many steps they may take.
-type run struct {
-	World
-	p    api.Program
-	left int
-	turn Turn
+// edgesOf are the places of the edges that leave a node, or come to it (in), rising.
+func (w World) edgesOf(v int, in bool) []int {
+	var l []int
+	for i, e := range w.Edges {
+		if _, has := other(e, v, in); has {
+			l = append(l, i)
+		}
+	}
+	return l
 }
 
-// Run is the world behind statements of a program that is ready, and how many steps they take; false, if that is more than fuel.
-func (w World) Run(p api.Program, stmts []int, fuel int, turn Turn) (World, int, bool) {
-	r := run{w.Fork(), p, fuel, turn}
+// run is a world in which statements are done, how many steps they may take, and how many regions were done.
+type run struct {
+	World
+	p       api.Program
+	left    int
+	turns   []Turn
+	regions int
+}
+
+// Run is the world behind statements of a program that fits, and how many steps they take; false, if that is more than fuel. Regions come in the orders, one behind the other, and from the first one on again; all else in the first one.
+func (w World) Run(p api.Program, stmts []int, fuel int, turns ...Turn) (World, int, bool) {
+	r := run{World: w.Fork(), p: p, left: fuel, turns: turns}
 	if !r.all(stmts) {
 		return World{}, 0, false
 	}
@@ -136,7 +163,8 @@ func (r *run) stmt(s api.Stmt) bool {
 			scalar[0], _ = num.Do(s.Op, scalar[0], val)
 		}
 	case api.EachIt:
-		r.World, _ = r.Region(r.p, s.Acts, r.turn)
+		r.World, _ = r.Region(r.p, s.Acts, r.turns[r.regions%len(r.turns)])
+		r.regions++
 	case api.IfIt:
 		if r.scalar(s.E) == 0 {
 			return r.all(s.Else)
@@ -149,7 +177,7 @@ func (r *run) stmt(s api.Stmt) bool {
 // taken are the nodes' values that a fold takes in.
 func (r *run) taken(s api.Stmt) []api.Word {
 	var l []api.Word
-	for _, v := range r.turn(r.Nodes) {
+	for _, v := range r.turns[0](r.Nodes) {
 		if s.Cond != -1 {
 			if is, _ := r.Value(r.p, s.Cond, v, -1, -1); is == 0 {
 				continue
@@ -189,7 +217,7 @@ func (r *run) bfs(s api.Stmt) bool {
 			return false
 		}
 		has := slices.Clone(r.own(s.Name))
-		for _, i := range r.turn(len(r.Edges)) {
+		for _, i := range r.turns[0](len(r.Edges)) {
 			if e := r.Edges[i]; has[e.From] == level && has[e.To] == -1 {
 				r.own(s.Name)[e.To] = level + 1
 			}

@@ -2,8 +2,10 @@
 package plain
 
 import (
+	"fmt"
 	"maps"
 	"slices"
+	"strings"
 
 	"reticule/api"
 	"reticule/column"
@@ -114,6 +116,29 @@ func (w World) Fill(l []api.Decl, k uint64) World {
 		w.Columns[api.Key{Name: d.Name, Side: d.Side}] = c
 	}
 	return w
+}
+
+// Zeros is the world with columns of zeros for all declarations of which it has no column.
+func (w World) Zeros(l []api.Decl) World {
+	w = w.Fork()
+	long := map[api.Side]int{api.Scalar: 1, api.OfNode: w.Nodes, api.OfEdge: len(w.Edges)}
+	for _, d := range l {
+		k := api.Key{Name: d.Name, Side: d.Side}
+		if _, there := w.Columns[k]; !there {
+			w.Columns[k] = Column{Kind: d.Kind, Vals: make([]api.Word, long[d.Side])}
+		}
+	}
+	return w
+}
+
+// Tell are columns as text: a=5 of a scalar, a[1 2] of nodes, a{1 2} of edges.
+func Tell(t *column.Table) string {
+	var l []string
+	for _, k := range t.Keys() {
+		list := strings.Trim(fmt.Sprint(t.List(k)), "[]")
+		l = append(l, map[api.Side]string{api.Scalar: k.Name + "=" + list, api.OfNode: k.Name + "[" + list + "]", api.OfEdge: k.Name + "{" + list + "}"}[k.Side])
+	}
+	return strings.Join(l, " ")
 }
 
 // mixed is a number that hangs on all bits of others.

@@ -51,22 +51,38 @@ func Sources() []string {
 	}
 }
 
+// Head is what Fitting declare, but for the empty one: a column of each side and kind, and some more.
+const Head = "(int i) (int j) (bool b) (nint ni) (nint nj) (nbool nb) (eint ei) (ebool eb) "
+
 // Fitting are texts of programs that fit themselves, and do not clash: all kinds of statements, acts and expressions, and all operations.
 func Fitting() []string {
-	const head = "(int i) (int j) (bool b) (nint ni) (nint nj) (nbool nb) (eint ei) (ebool eb) "
 	return []string{
 		"",
-		head,
-		head + "(set i (+ 1 (- j (* (count) (/ 7 (% i 2))))))",
-		head + "(set i (narrow 8 (shl (min i j) (shr (max 1 2) (& 3 (| 4 (^ 5 j)))))))",
-		head + "(set b (if (and b (not false)) (= true (< i j)) (or (= i -1) b)))",
-		head + "(fold i + (own ni)) (fold b and (own nb) (< (id) (deg in))) (fold j min (if b i (own nj)) (= (own nb) b))",
-		head + "(each (put ni (deg out)) (put nb b (own nb)) (push nj max in (+ (via ei) (own ni)) (not (own nb))))",
-		head + "(each (pull ni + out (* (far nj) (via ei))) (pull nb or in (and (far nb) (via eb))) (push ni + in (via ei)))",
-		head + "(each (pull ni min out (if (via eb) (farid) i)))",
-		head + "(if b ((set i 1)) ((while (< i 3) (set i (+ i 1))) (loop false (set b b))))",
-		head + "(bfs ni (+ i 1) (each (push nb or out (= (own ni) (id)) (own nb))) (bfs nj 0))",
+		Head,
+		Head + "(set i (+ 1 (- j (* (count) (/ 7 (% i 2))))))",
+		Head + "(set i (narrow 8 (shl (min i j) (shr (max 1 2) (& 3 (| 4 (^ 5 j)))))))",
+		Head + "(set b (if (and b (not false)) (= true (< i j)) (or (= i -1) b)))",
+		Head + "(fold i + (own ni)) (fold b and (own nb) (< (id) (deg in))) (fold j min (if b i (own nj)) (= (own nb) b))",
+		Head + "(each (put ni (deg out)) (put nb b (own nb)) (push nj max in (+ (via ei) (own ni)) (not (own nb))))",
+		Head + "(each (pull ni + out (* (far nj) (via ei))) (pull nb or in (and (far nb) (via eb))) (push ni + in (via ei)))",
+		Head + "(each (pull ni min out (if (via eb) (farid) i)))",
+		Head + "(if b ((set i 1)) ((while (< i 3) (set i (+ i 1))) (loop false (set b b))))",
+		Head + "(bfs ni (+ i 1) (each (push nb or out (= (own ni) (id)) (own nb))) (bfs nj 0))",
 	}
+}
+
+// Running are Fitting, and more texts of such programs: some run on, with other statements in their loops and levels.
+func Running() []string {
+	return append(Fitting(),
+		Head+"(while (< i 3) (set i (+ (max i 0) 1)) (each (push ni + out (* i (own nj)) (own nb)) (put nj (+ (own nj) (deg in)))))",
+		Head+"(loop (and b (< j 9)) (fold j + (own ni) (< (own ni) 4)) (set j (max j 7)) (each (pull nb or out (far nb)) (put ni (if (own nb) (id) j))) (fold b and (own nb)))",
+		Head+"(bfs ni (& i 3) (fold j + 1 (= (own ni) 2)) (if (< j 2) ((each (put nj (own ni)))) ((each (push nj min in (via ei) (own nb))))))",
+		Head+"(bfs ni 1 (each (put ni -1 (and (own nb) (< 1 (own ni))))) (bfs nj 0 (set i (+ i 1))))",
+		Head+"(bfs ni 0 (bfs ni (- (count) 1)) (each (put ni 5 (= (own ni) 1))))",
+		Head+"(set i 2) (while (not (= i 0)) (set i (- i 1)) (loop b (fold b and (own nb)) (set b false)))",
+		Head+"(loop (< i 2) (each (pull ni max in (+ (far nj) (farid))) (push nj max in (own ni) (not (own nb)))) (fold i max (own ni)) (set i (if (< i 0) 3 (min i 100))))",
+		Head+"(if (< i j) ((bfs nj i)) ((bfs nj j (each (put nb (= (own nj) 0)))))) (fold j max (own nj)) (while (< 0 j) (set j (- (min j 3) 1)) (each (push ni + out 1 (= (own nj) j))))",
+	)
 }
 
 // Changed does f with all texts that come of one by a bracket or word that is missing, or by a piece ahead of it, or in its place.
