@@ -81,44 +81,15 @@ func TestP3ProgramsAreTheCallers(t *testing.T) {
 		whole := proof.Whole(p)
 		flip.Pulls(p)
 		flip.Bfs(p)
+		if proof.Whole(p) != whole {
+			t.Errorf("%s: it changed", from)
+		}
 		for name, call := range calls() {
-			first, wrong := call(p)
-			second, _ := call(p)
-			was := text(second)
-			if proof.Whole(p) != whole {
-				t.Fatalf("%s of %s: it changed", name, from)
-			}
-			if !proof.Apart(p, first, second) {
-				t.Errorf("%s of %s: lists have memory in common", name, from)
-			}
-			spoilAll(first)
-			if third, again := call(p); again != wrong || text(second) != was || text(third) != was || proof.Whole(p) != whole {
-				t.Errorf("%s of %s: %s, not %s", name, from, text(third), was)
-			}
-			spoiled := source(t, from)
-			fourth, _ := call(spoiled)
-			spoilAll(spoiled)
-			if text(fourth) != was {
-				t.Errorf("%s of %s: what was answered changed", name, from)
+			if what := proof.Shared(source(t, from), call); what != "" {
+				t.Errorf("%s of %s: %s", name, from, what)
 			}
 		}
 	}
-}
-
-// spoilAll fills all lists of a program, and the spare room behind their ends.
-func spoilAll(p api.Program) {
-	for _, e := range p.Exprs {
-		proof.Spoil(e.Kids, 99)
-	}
-	for _, s := range p.Stmts {
-		proof.Spoil(s.Acts, api.Act{Name: "spoilt"})
-		proof.Spoil(s.Then, 99)
-		proof.Spoil(s.Else, 99)
-	}
-	proof.Spoil(p.Decls, api.Decl{Name: "spoilt"})
-	proof.Spoil(p.Exprs, api.Expr{Name: "spoilt"})
-	proof.Spoil(p.Stmts, api.Stmt{Name: "spoilt"})
-	proof.Spoil(p.Main, 99)
 }
 
 func TestP1WhateverIsHandedIn(t *testing.T) {

@@ -1,8 +1,11 @@
 package proof
 
 import (
+	"fmt"
 	"reflect"
 	"slices"
+
+	"reticule/api"
 )
 
 // Apart tells whether no two lists, in whatever there is, have memory in common, spare room behind their ends too.
@@ -42,4 +45,45 @@ func rooms(v reflect.Value) [][2]uintptr {
 		}
 	}
 	return all
+}
+
+// Shared tells what is not as it should be of a call that makes a program of another one: what is handed in stays, and what comes out shares nothing with it, nor with what came out ahead; empty, if all is.
+func Shared(from api.Program, call func(api.Program) (api.Program, api.Errno)) string {
+	p := Program(from)
+	whole := Whole(p)
+	first, wrong := call(p)
+	second, _ := call(p)
+	was := fmt.Sprint(second)
+	if Whole(p) != whole {
+		return "what was handed in changed"
+	}
+	if !Apart(p, first, second) {
+		return "lists have memory in common"
+	}
+	spoilAll(first)
+	if third, again := call(p); again != wrong || fmt.Sprint(second) != was || fmt.Sprint(third) != was || Whole(p) != whole {
+		return "what was answered changes something"
+	}
+	fourth, _ := call(p)
+	spoilAll(p)
+	if fmt.Sprint(fourth) != was {
+		return "what was answered changed"
+	}
+	return ""
+}
+
+// spoilAll fills all lists of a program, and the spare room behind their ends.
+func spoilAll(p api.Program) {
+	for _, e := range p.Exprs {
+		Spoil(e.Kids, 99)
+	}
+	for _, s := range p.Stmts {
+		Spoil(s.Acts, api.Act{Name: "spoilt"})
+		Spoil(s.Then, 99)
+		Spoil(s.Else, 99)
+	}
+	Spoil(p.Decls, api.Decl{Name: "spoilt"})
+	Spoil(p.Exprs, api.Expr{Name: "spoilt"})
+	Spoil(p.Stmts, api.Stmt{Name: "spoilt"})
+	Spoil(p.Main, 99)
 }

@@ -37,3 +37,25 @@ func TestProgramHasSpareRoom(t *testing.T) {
 		t.Error("what stands in spare room is not told")
 	}
 }
+
+func TestShared(t *testing.T) {
+	p := api.Program{Exprs: []api.Expr{{Kids: []int{1}}}, Stmts: []api.Stmt{{Then: []int{2}, Acts: []api.Act{{E: 5}}}}, Main: []int{3}}
+	kept := Program(p)
+	for what, call := range map[string]func(api.Program) api.Program{
+		"":                            Program,
+		"lists have memory in common": func(p api.Program) api.Program { q := Program(p); q.Stmts[0].Acts = p.Stmts[0].Acts; return q },
+		"what was handed in changed":  func(p api.Program) api.Program { p.Main[:2][1] = 5; return Program(p) },
+	} {
+		if got := Shared(p, func(p api.Program) (api.Program, api.Errno) { return call(p), api.OK }); got != what {
+			t.Errorf("%q, not %q", got, what)
+		}
+	}
+	for what, call := range map[string]func(api.Program) (api.Program, api.Errno){
+		"the program": func(p api.Program) (api.Program, api.Errno) { return p, api.OK },
+		"one's own":   func(api.Program) (api.Program, api.Errno) { return kept, api.OK },
+	} {
+		if Shared(p, call) == "" {
+			t.Error(what)
+		}
+	}
+}
