@@ -29,20 +29,20 @@ func SharedCode(from api.Code, call func(api.Code) (api.Code, api.Errno)) string
 	if !Apart(c, first, second) {
 		return "lists have memory in common"
 	}
-	spoilCode(first)
+	SpoilCode(first)
 	if third, again := call(c); again != wrong || fmt.Sprint(second) != was || fmt.Sprint(third) != was || WholeCode(c) != whole {
 		return "what was answered changes something"
 	}
 	fourth, _ := call(c)
-	spoilCode(c)
+	SpoilCode(c)
 	if fmt.Sprint(fourth) != was {
 		return "what was answered changed"
 	}
 	return ""
 }
 
-// spoilCode fills all lists of code, and the spare room behind their ends.
-func spoilCode(c api.Code) {
+// SpoilCode fills all lists of code, and the spare room behind their ends.
+func SpoilCode(c api.Code) {
 	spoilAll(c.Program)
 	Spoil(c.List, api.Instr{Kind: 99})
 }
